@@ -1,0 +1,1 @@
+"""Basetrees: for each copy one source, and nothing left hanging."""

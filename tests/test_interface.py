@@ -1,0 +1,56 @@
+"""The names and arguments of the interface, and the files in which it is defined."""
+
+import importlib
+import inspect
+import unittest
+
+FUNCTIONS = {
+    "basetrees.zigzags": {
+        "zigzags": ("web",), "kinds": ("web",), "zigzag_of": ("web", "source", "copy"), "ways": ("web",),
+    },
+}
+CLASSES = {
+    "basetrees.webs": {
+        "Web": {
+            "__init__": ("self", "text"), "sources": ("self", "copy"), "copies": ("self", "source"),
+            "with_copy": ("self", "name", "sources"), "without": ("self", "copy"), "__str__": ("self",),
+            "__repr__": ("self",), "__eq__": ("self", "other"),
+        },
+    },
+}
+PROPERTIES = {("basetrees.webs", "Web"): ("text", "names", "lines", "ends")}
+
+
+class InterfaceTest(unittest.TestCase):
+    def assert_called_so(self, call, parameters):
+        found = inspect.signature(call).parameters
+        self.assertEqual(tuple(found), parameters)
+        for parameter in found.values():
+            self.assertIs(parameter.kind, inspect.Parameter.POSITIONAL_OR_KEYWORD)
+            self.assertIs(parameter.default, inspect.Parameter.empty)
+
+    def test_functions(self):
+        for place, functions in FUNCTIONS.items():
+            for name, parameters in functions.items():
+                call = getattr(importlib.import_module(place), name)
+                self.assertTrue(inspect.isfunction(call))
+                self.assertEqual(call.__module__, place)
+                self.assert_called_so(call, parameters)
+
+    def test_classes(self):
+        for place, classes in CLASSES.items():
+            for name, methods in classes.items():
+                kind = getattr(importlib.import_module(place), name)
+                self.assertEqual((kind.__module__, kind.__bases__), (place, (object,)))
+                for method, parameters in methods.items():
+                    self.assert_called_so(vars(kind)[method], parameters)
+
+    def test_properties(self):
+        for (place, name), words in PROPERTIES.items():
+            kind = getattr(importlib.import_module(place), name)
+            for word in words:
+                self.assertIsInstance(vars(kind)[word], property)
+
+
+if __name__ == "__main__":
+    unittest.main()
