@@ -74,7 +74,7 @@ class Web:
         return isinstance(other, Web) and self._text == other._text
 
     def __str__(self):
-        return self._text
+        return str(self._text)
 
     def __repr__(self):
         return f"Web of {len(self._names)} copies"

@@ -9,8 +9,25 @@ PACKAGE = pathlib.Path(__file__).resolve().parent.parent / "basetrees"
 BUILTINS = set("""len range enumerate zip min max sum abs sorted reversed int str bool bytes list tuple dict set
 frozenset isinstance ord repr any all divmod pow Exception ValueError TypeError KeyError IndexError LookupError
 ZeroDivisionError ArithmeticError OverflowError RuntimeError NotImplementedError AttributeError property super""".split())
+LIBRARY = {"math": {"gcd"}}
+METHODS = set("""append clear copy count endswith extend find get index insert isalnum isalpha isdigit islower isspace
+isupper items join keys ljust lower lstrip partition pop remove replace reverse rfind rjust rpartition rsplit rstrip
+setdefault split splitlines startswith strip update upper values zfill bit_length title capitalize swapcase casefold
+center expandtabs removeprefix removesuffix rindex isascii isdecimal isnumeric istitle isidentifier isprintable
+add discard""".split())
 DOUBLE = {"__init__", "__eq__", "__repr__", "__str__", "__len__", "__enter__", "__exit__", "__contains__",
           "__getitem__", "__iter__"}
+
+
+def shows(value):
+    """Whether a `__str__` or `__repr__` may return this: a text, an f-string, str, repr or the join of a text."""
+    if isinstance(value, ast.Constant):
+        return isinstance(value.value, str)
+    if isinstance(value, ast.Call) and isinstance(value.func, ast.Attribute):
+        return value.func.attr == "join" and isinstance(value.func.value, ast.Constant)
+    if isinstance(value, ast.Call):
+        return value.func.id in ("str", "repr")
+    return isinstance(value, ast.JoinedStr)
 
 
 class FormTest(unittest.TestCase):
@@ -43,6 +60,9 @@ class FormTest(unittest.TestCase):
         self.assertEqual(self.nodes(ast.Import), [])
         for path, node in self.nodes(ast.ImportFrom):
             self.assertIn(node, self.trees[path].body)
+            if node.module in LIBRARY:
+                self.assertLessEqual({alias.name for alias in node.names}, LIBRARY[node.module])
+                continue
             self.assertTrue(node.module.startswith("basetrees.") and node.level == 0, (path, node.module))
             names = self.defined_names(PACKAGE / (node.module.split(".")[1] + ".py"))
             for alias in node.names:
@@ -59,8 +79,58 @@ class FormTest(unittest.TestCase):
                 self.assertIn(node.id, BUILTINS, (path, node.lineno))
                 self.assertIsInstance(node.ctx, ast.Load, (path, node.lineno))
 
+    def test_no_two_files_import_from_each_other(self):
+        asked = {path.stem: [node.module.split(".")[1] for node in tree.body if isinstance(node, ast.ImportFrom)
+                             and node.module not in LIBRARY] for path, tree in self.trees.items()}
+        done = []
+        while len(done) < len(asked):
+            free = [name for name in asked if name not in done and set(asked[name]) <= set(done)]
+            self.assertTrue(free, (asked, done))
+            done.extend(free)
+
+    def test_parameters_have_names_of_their_own(self):
+        for path, node in self.nodes(ast.arg):
+            self.assertNotIn(node.arg, vars(builtins), (path, node.lineno))
+        for path, node in self.nodes(ast.FunctionDef, ast.ClassDef):
+            self.assertNotIn(node.name, vars(builtins), (path, node.lineno))
+
+    def test_names_are_bound_once_in_a_file(self):
+        for path, tree in self.trees.items():
+            names = [alias.name for node in tree.body if isinstance(node, ast.ImportFrom) for alias in node.names]
+            names.extend(sorted(self.defined_names(path)))
+            self.assertEqual(len(names), len(set(names)), path)
+            taken = {node.name for node in tree.body if isinstance(node, ast.ClassDef)}
+            taken |= {alias.name for node in tree.body if isinstance(node, ast.ImportFrom) for alias in node.names}
+            for node in ast.walk(tree):
+                if isinstance(node, ast.Name) and isinstance(node.ctx, ast.Store):
+                    self.assertNotIn(node.id, taken, (path, node.lineno))
+                if isinstance(node, ast.arg):
+                    self.assertNotIn(node.arg, taken, (path, node.lineno))
+
+    def test_methods(self):
+        own = {part.name for _, node in self.nodes(ast.ClassDef) for part in node.body
+               if isinstance(part, ast.FunctionDef)}
+        for path, node in self.nodes(ast.Call):
+            if isinstance(node.func, ast.Attribute):
+                self.assertIn(node.func.attr, METHODS | own, (path, node.lineno))
+
+    def test_shown_texts(self):
+        for path, node in self.nodes(ast.FunctionDef):
+            if node.name in ("__str__", "__repr__"):
+                self.assertIsInstance(node.body[-1], ast.Return, (path, node.lineno))
+                for part in ast.walk(node):
+                    if isinstance(part, ast.Return):
+                        self.assertTrue(shows(part.value), (path, part.lineno))
+
+    def test_what_is_compared_by_is(self):
+        for path, node in self.nodes(ast.Compare):
+            for sign, right in zip(node.ops, node.comparators):
+                if isinstance(sign, (ast.Is, ast.IsNot)):
+                    self.assertIsInstance(right, ast.Constant, (path, node.lineno))
+                    self.assertIn(right.value, (None, True, False), (path, node.lineno))
+
     def test_what_is_left_out(self):
-        self.assertEqual(self.nodes(ast.Div, ast.Global, ast.AsyncFunctionDef, ast.Await), [])
+        self.assertEqual(self.nodes(ast.Div, ast.Global, ast.AsyncFunctionDef, ast.Await, ast.GeneratorExp), [])
         for path, node in self.nodes(ast.Constant):
             self.assertNotIsInstance(node.value, (float, complex), (path, node.lineno))
             if isinstance(node.value, str):
