@@ -1,56 +1,63 @@
-"""The text of a web, and the table of it: for each name the tuple of its sources."""
+"""The text of a web, and what it tells: the sources and the copies of each name."""
 
 from basetrees.limits import MOST_COPIES
 from basetrees.names import is_name, is_one_of
 
 
 def read_web(text):
-    """The table of the web with this text; None if any value is no such text."""
+    """Two dicts, of the sources and of the copies of each name, in lists; None if any value is no text of a web."""
     if not isinstance(text, str):
         return None
-    table = {}
+    all_sources = {}
+    all_copies = {}
     for part in text.split("; "):
         name, *sources = part.split(" ")
-        if not _may_come(table, name, sources):
+        if not is_new_name(name, all_copies) or not _may_be_chosen(sources, all_copies):
             return None
-        table[name] = tuple(sources)
-    if len(table) > MOST_COPIES:
+        for source in sources:
+            all_copies[source].append(name)
+        all_sources[name] = sources
+        all_copies[name] = []
+    if len(all_sources) > MOST_COPIES:
         return None
-    return table
+    return all_sources, all_copies
 
 
-def write_web(table):
-    """The text of the web with this table."""
-    return "; ".join([" ".join([name, *table[name]]) for name in table])
+def text_with(text, name, sources):
+    """The text of a web with one more copy behind the others."""
+    return "; ".join([text, " ".join([name, *sources])])
 
 
-def is_new_name(table, value):
-    """Whether any value is a name, and none of a copy."""
-    return is_name(value) and value not in table
+def text_without(text, at):
+    """The text of a web without the copy at this place."""
+    parts = text.split("; ")
+    del parts[at]
+    return "; ".join(parts)
 
 
-def are_sources(table, sources):
-    """Whether a list or tuple of any values is one or two unlike names of copies."""
-    if len(sources) not in (1, 2):
-        return False
-    if not all([is_one_of(source, table) for source in sources]):
-        return False
-    return len(sources) == 1 or sources[0] != sources[1]
+def is_new_name(value, names):
+    """Whether any value is a name, and none of these."""
+    return is_name(value) and value not in names
 
 
-def copies_of(table, source):
-    """The tuple of the copies of a source, in the order of the names."""
-    return tuple([copy for copy in table if source in table[copy]])
+def are_sources(values, names):
+    """Whether a list or tuple of any values is one or two unlike names of these."""
+    if len(values) == 1:
+        return is_one_of(values[0], names)
+    if len(values) == 2:
+        return is_one_of(values[0], names) and is_one_of(values[1], names) and values[0] != values[1]
+    return False
 
 
-def is_full(table, source):
-    """Whether a source has as many copies as it may have."""
-    return len(copies_of(table, source)) == 2
+def first_full(sources, all_copies):
+    """The first of the sources that has as many copies as it may have; None if there is none."""
+    for source in sources:
+        if len(all_copies[source]) == 2:
+            return source
+    return None
 
 
-def _may_come(table, name, sources):
-    if not is_new_name(table, name):
-        return False
-    if not table:
+def _may_be_chosen(sources, all_copies):
+    if not all_copies:
         return not sources
-    return are_sources(table, sources) and not any([is_full(table, source) for source in sources])
+    return are_sources(sources, all_copies) and first_full(sources, all_copies) is None

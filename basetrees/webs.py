@@ -3,22 +3,23 @@
 from basetrees.errors import FullSource, InvalidName, InvalidSources, InvalidText, TooMany
 from basetrees.limits import MOST_COPIES
 from basetrees.names import check_known
-from basetrees.texts import are_sources, copies_of, is_full, is_new_name, read_web, write_web
+from basetrees.texts import are_sources, first_full, is_new_name, read_web, text_with, text_without
 
 
 class Web:
     """A web; it never changes."""
 
     def __init__(self, text):
-        table = read_web(text)
-        if table is None:
+        told = read_web(text)
+        if told is None:
             raise InvalidText(text)
+        all_sources, all_copies = told
         self._text = text
-        self._table = table
-        self._names = tuple(table)
-        self._lines = tuple([(source, copy) for copy in table for source in table[copy]])
-        self._copies = {name: copies_of(table, name) for name in table}
-        self._ends = tuple([name for name in table if not self._copies[name]])
+        self._sources = {name: tuple(all_sources[name]) for name in all_sources}
+        self._copies = {name: tuple(all_copies[name]) for name in all_copies}
+        self._names = tuple(all_sources)
+        self._lines = tuple([(source, copy) for copy in all_sources for source in all_sources[copy]])
+        self._ends = tuple([name for name in all_copies if not all_copies[name]])
 
     @property
     def text(self):
@@ -42,33 +43,33 @@ class Web:
 
     def sources(self, copy):
         """The tuple of the sources of a copy, in their order."""
-        check_known(copy, self._names)
-        return self._table[copy]
+        check_known(copy, self._sources)
+        return self._sources[copy]
 
     def copies(self, source):
         """The tuple of the copies of a source, in the order of the names."""
-        check_known(source, self._names)
+        check_known(source, self._copies)
         return self._copies[source]
 
     def with_copy(self, name, sources):
         """The web with one more copy behind the others."""
-        if not is_new_name(self._table, name):
+        if not is_new_name(name, self._copies):
             raise InvalidName(name)
-        if not isinstance(sources, tuple) or not are_sources(self._table, sources):
+        if not isinstance(sources, tuple) or not are_sources(sources, self._copies):
             raise InvalidSources(sources)
         if len(self._names) == MOST_COPIES:
             raise TooMany(MOST_COPIES)
-        for source in sources:
-            if is_full(self._table, source):
-                raise FullSource(source)
-        return Web(write_web({**self._table, name: sources}))
+        full = first_full(sources, self._copies)
+        if full is not None:
+            raise FullSource(full)
+        return Web(text_with(self._text, name, sources))
 
     def without(self, copy):
         """The web without an end."""
-        check_known(copy, self._names)
+        check_known(copy, self._copies)
         if copy not in self._ends or copy == self._names[0]:
             raise InvalidName(copy)
-        return Web(write_web({name: self._table[name] for name in self._names if name != copy}))
+        return Web(text_without(self._text, self._names.index(copy)))
 
     def __eq__(self, other):
         return isinstance(other, Web) and self._text == other._text

@@ -10,10 +10,11 @@ def zigzags(web):
     """The tuple of the zigzags, each a tuple of lines."""
     check_web(web)
     found = []
+    places = {line: at for at, line in enumerate(web.lines)}
     parted = set()
     for line in web.lines:
         if line not in parted:
-            zigzag = _zigzag_from(web, line)
+            zigzag = _zigzag_from(web, line, places)
             found.append(zigzag)
             for other in zigzag:
                 parted.add(other)
@@ -22,7 +23,7 @@ def zigzags(web):
 
 def kinds(web):
     """The tuple of the kinds of the zigzags: "ring", "wide", "even" or "short"."""
-    return tuple([_kind(zigzag) for zigzag in zigzags(web)])
+    return tuple([kind_of(zigzag) for zigzag in zigzags(web)])
 
 
 def zigzag_of(web, source, copy):
@@ -37,55 +38,64 @@ def ways(web):
     return tuple([_ways_of(zigzag) for zigzag in zigzags(web)])
 
 
-def _zigzag_from(web, earliest):
-    row = _walk(web, earliest)
-    if _is_ring(row):
-        return tuple(row)
-    # The earliest line may stand in the middle: only from an end a walk meets all lines.
-    row = _walk(web, row[-1])
-    if web.lines.index(row[-1]) < web.lines.index(row[0]):
-        row = row[::-1]
-    return tuple(row)
+def kind_of(zigzag):
+    """The kind of a zigzag."""
+    # Along a zigzag sources and copies take turns: at an even number of lines both its ends are of one sort.
+    if len(zigzag) % 2 == 1:
+        return "even"
+    if is_ring(zigzag):
+        return "ring"
+    return "wide" if begins_at_copy(zigzag) else "short"
 
 
-def _walk(web, start):
-    """The lines from this one on, each beside the one before it, the earlier one first where there are two."""
-    row = [start]
-    ahead = _lines_beside(web, start)
-    while ahead:
-        row.append(ahead[0])
-        ahead = [line for line in _lines_beside(web, row[-1]) if line not in row]
+def is_ring(zigzag):
+    """Whether the last line of a zigzag is beside the first one, and there are more than two."""
+    # The second line of a ring is beside the first one over their copy, so the last one over their source.
+    return len(zigzag) > 2 and zigzag[0][0] == zigzag[-1][0]
+
+
+def begins_at_copy(row):
+    """Whether the first two lines of a row, each beside the next one, are two of one source."""
+    return len(row) > 1 and row[0][0] == row[1][0]
+
+
+def _zigzag_from(web, earliest, places):
+    ahead = _walk(web, earliest, True)
+    if is_ring([earliest, *ahead]):
+        return (earliest, *ahead)
+    # The earliest line may stand in the middle.
+    back = _walk(web, earliest, False)
+    row = (*back[::-1], earliest, *ahead)
+    if places[row[-1]] < places[row[0]]:
+        return row[::-1]
     return row
 
 
-def _lines_beside(web, line):
-    return [other for other in web.lines if _are_beside(line, other)]
+def _walk(web, start, over_copy):
+    """The lines behind this one, each beside the one before it, at first over its copy or over its source."""
+    row = []
+    source, copy = start
+    while True:
+        if over_copy:
+            source = _other(web.sources(copy), source)
+        else:
+            copy = _other(web.copies(source), copy)
+        if source is None or copy is None or (source, copy) == start:
+            return row
+        row.append((source, copy))
+        over_copy = not over_copy
 
 
-def _are_beside(line, other):
-    return line != other and (line[0] == other[0] or line[1] == other[1])
-
-
-def _is_ring(row):
-    return len(row) > 2 and _are_beside(row[0], row[-1])
-
-
-def _kind(zigzag):
-    many_sources = _count_sources(zigzag)
-    many_copies = len({copy for _, copy in zigzag})
-    if many_copies > many_sources:
-        return "wide"
-    if many_sources > many_copies:
-        return "short"
-    return "ring" if _is_ring(zigzag) else "even"
-
-
-def _count_sources(zigzag):
-    return len({source for source, _ in zigzag})
+def _other(names, name):
+    """The other one of two names; None if there is but one."""
+    if len(names) == 1:
+        return None
+    return names[1] if names[0] == name else names[0]
 
 
 def _ways_of(zigzag):
-    kind = _kind(zigzag)
+    kind = kind_of(zigzag)
     if kind == "wide":
-        return _count_sources(zigzag)
+        # Each of its sources has two lines.
+        return len(zigzag) // 2
     return WAYS[kind]

@@ -1,9 +1,11 @@
 """Webs and wrong values that several tests use."""
 
 import itertools
+import random
 
 from basetrees.errors import NoChoice
 from basetrees.webs import Web
+from basetrees.zigzags import kinds, zigzags
 
 RING = "a; b a; c a; d b c; e b c"
 WIDE = "a; b a; c a; d b; e b c; f c"
@@ -140,3 +142,54 @@ def source_tuples(at):
 def fits(row, sources):
     chosen = [name for others in row for name in others]
     return all(chosen.count(name) < 2 for name in sources)
+
+
+def texts_to_walk():
+    """The texts of webs of all kinds with so few copies that all tuples of sources can be gone through."""
+    small = [text for many in range(1, 6) for text in small_texts(many)]
+    drawn = [drawn_text(seed, 7 + seed % 5) for seed in range(60)]
+    drawn.extend([drawn_with_choices(seed, 8 + seed % 4, 85) for seed in range(60)])
+    return [*small, *small_texts(6)[::7], *PLAIN, *drawn]
+
+
+def drawn_text(seed, many, twos=70):
+    """The text of a drawn web: with `twos` out of a hundred a copy has two sources, if there are two left."""
+    drawing = random.Random(seed)
+    names = [name_of(number) for number in range(many)]
+    drawing.shuffle(names)
+    parts = [names[0]]
+    left = {names[0]: 2}
+    for name in names[1:]:
+        count = 2 if len(left) > 1 and drawing.randrange(100) < twos else 1
+        sources = drawing.sample(sorted(left), count)
+        for source in sources:
+            left[source] -= 1
+            if left[source] == 0:
+                del left[source]
+        left[name] = 2
+        parts.append(" ".join([name, *sources]))
+    return "; ".join(parts)
+
+
+def drawn_with_choices(seed, many, twos=70):
+    """The text of a drawn web without a short zigzag, of about so many copies: each short one is made even."""
+    drawing = random.Random(seed)
+    web = Web(drawn_text(seed, many, twos))
+    while "short" in kinds(web) and len(web.names) < 40:
+        zigzag = zigzags(web)[kinds(web).index("short")]
+        end = drawing.choice([zigzag[0][0], zigzag[-1][0]])
+        web = web.with_copy(fresh_name(web), (end,))
+    while "short" in kinds(web):
+        web = web.without(web.ends[-1])
+    return web.text
+
+
+def fresh_name(web):
+    return next(name for name in (f"z{letter}" for letter in LETTERS) if name not in web.names)
+
+
+def drawn_told(seed, web, many):
+    """Told lines of a web, no line twice, at most so many."""
+    drawing = random.Random(seed)
+    lines = drawing.sample(web.lines, min(many, len(web.lines)))
+    return tuple([(source, copy, drawing.random() < 0.6) for source, copy in lines])

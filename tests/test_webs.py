@@ -3,20 +3,14 @@ import unittest
 
 from basetrees.errors import FullSource, InvalidName, InvalidSources, InvalidText, TooMany, UnknownName
 from basetrees.webs import Web
+from cases import Case
 from samples import (EVEN, EqualToAll, LONG, NO_NAMES, ODD, ODD_TUPLES, PLAIN, RING, SHORT, Touchy, WIDE, chain, name_of,
                      single_file, small_texts, stacked_rings)
 
 FORTY = (single_file(40), chain(40, (2,)), chain(40, (1, 2)), stacked_rings(39) + "; last bl")
 
 
-class Helper(unittest.TestCase):
-    def assert_gives(self, kind, value, call, *args, **more):
-        """The call raises just this error, with this very value."""
-        with self.assertRaises(kind) as caught:
-            call(*args, **more)
-        self.assertIs(type(caught.exception), kind)
-        self.assertIs(caught.exception.given, value)
-
+class Helper(Case):
     def assert_no_web(self, text):
         self.assert_gives(InvalidText, text, Web, text)
         self.assert_gives(InvalidText, text, Web, text=text)

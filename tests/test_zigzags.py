@@ -1,67 +1,15 @@
-import itertools
 import unittest
 
 from basetrees.errors import NotAWeb, UnknownName
 from basetrees.webs import Web
 from basetrees.zigzags import kinds, ways, zigzag_of, zigzags
-from samples import (EVEN, LONG, NO_NAMES, ODD, ODD_TUPLES, PLAIN, RING, SHORT, WIDE, chain, long_row, single_file,
-                     small_texts, stacked_rings)
+from cases import Case
+from plain import beside, plain_choices, plain_kind, plain_ways, told_lots
+from samples import (EVEN, LONG, NO_NAMES, ODD, ODD_TUPLES, PLAIN, RING, SHORT, WIDE, chain, drawn_text, long_row,
+                     single_file, small_texts, stacked_rings)
 
 GREAT = (chain(40, (2,)), chain(40, (1,)), chain(40, (1, 2)), stacked_rings(39), single_file(40), long_row("ring"),
          long_row("wide"), long_row("even"), long_row("short"))
-
-
-def beside(one, other):
-    return one != other and (one[0] == other[0] or one[1] == other[1])
-
-
-def told_lots(web):
-    """The zigzags as the document tells them, from all sets of lines that hang together."""
-    lots = {line: {line} for line in web.lines}
-    for one, other in itertools.combinations(web.lines, 2):
-        if beside(one, other) and lots[one] is not lots[other]:
-            lots[one] |= lots[other]
-            for line in lots[other]:
-                lots[line] = lots[one]
-    found = []
-    for line in web.lines:
-        if line == [other for other in web.lines if other in lots[line]][0]:
-            found.append(told_lot([other for other in web.lines if other in lots[line]]))
-    return tuple(found)
-
-
-def told_lot(lines):
-    """The lines of one zigzag, passed in the order of the web, as they are told."""
-    neighbours = {line: [other for other in lines if beside(line, other)] for line in lines}
-    ends = [line for line in lines if len(neighbours[line]) < 2]
-    row = [ends[0]] if ends else [lines[0], neighbours[lines[0]][0]]
-    while len(row) < len(lines):
-        row.append([line for line in neighbours[row[-1]] if line not in row][0])
-    return tuple(row)
-
-
-def counted_ways(zigzag):
-    """The number of ways of one zigzag, counted one by one."""
-    sources = {source for source, _ in zigzag}
-    offered = {}
-    for source, copy in zigzag:
-        offered.setdefault(copy, []).append(source)
-    return sum(1 for chosen in itertools.product(*offered.values()) if set(chosen) == sources)
-
-
-def counted_choices(web):
-    """The number of choices of a web, counted one by one."""
-    wanted = {name for name in web.names if name not in web.ends}
-    offered = [web.sources(name) for name in web.names[1:]]
-    return sum(1 for chosen in itertools.product(*offered) if set(chosen) == wanted)
-
-
-def plain_kind(zigzag):
-    many_sources = len({source for source, _ in zigzag})
-    many_copies = len({copy for _, copy in zigzag})
-    if len(zigzag) > 2 and beside(zigzag[0], zigzag[-1]):
-        return "ring"
-    return {1: "wide", 0: "even", -1: "short"}[many_copies - many_sources]
 
 
 class DocumentTest(unittest.TestCase):
@@ -150,6 +98,10 @@ class ZigzagsTest(unittest.TestCase):
             for text in small_texts(many):
                 self.assert_right(Web(text), True)
 
+    def test_drawn_webs(self):
+        for seed in range(60):
+            self.assert_right(Web(drawn_text(seed, 12 + seed % 29)), False)
+
     def test_plain_and_great_webs(self):
         for text in PLAIN:
             self.assert_right(Web(text), True)
@@ -171,11 +123,11 @@ class ZigzagsTest(unittest.TestCase):
             self.assert_counted(web, found)
 
     def assert_counted(self, web, found):
-        self.assertEqual(ways(web), tuple([counted_ways(zigzag) for zigzag in found]), web.text)
+        self.assertEqual(ways(web), tuple([plain_ways(zigzag) for zigzag in found]), web.text)
         product = 1
         for number in ways(web):
             product *= number
-        self.assertEqual(product, counted_choices(web), web.text)
+        self.assertEqual(product, len(plain_choices(web)), web.text)
 
     def test_tuples_and_no_lists(self):
         for text in ("a", *PLAIN, *GREAT):
@@ -229,13 +181,7 @@ class GreatTest(unittest.TestCase):
         self.assertEqual(ring[-1], (web.names[7], web.names[39]))
 
 
-class ArgumentsTest(unittest.TestCase):
-    def assert_gives(self, kind, value, call, *args, **more):
-        with self.assertRaises(kind) as caught:
-            call(*args, **more)
-        self.assertIs(type(caught.exception), kind)
-        self.assertIs(caught.exception.given, value)
-
+class ArgumentsTest(Case):
     def test_by_name(self):
         for text in ("a", *PLAIN):
             web = Web(text)
