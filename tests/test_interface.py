@@ -8,6 +8,18 @@ FUNCTIONS = {
     "basetrees.zigzags": {
         "zigzags": ("web",), "kinds": ("web",), "zigzag_of": ("web", "source", "copy"), "ways": ("web",),
     },
+    "basetrees.choices": {
+        "how_many": ("web",), "choice_at": ("web", "number"), "number_of": ("web", "choice"),
+        "kept": ("web", "choice"), "is_choice": ("web", "value"),
+    },
+    "basetrees.judging": {"judge": ("web", "source", "copy"), "sure_lines": ("web",), "shares": ("web",)},
+    "basetrees.gaps": {
+        "gaps": ("web",), "freeing": ("web",), "how_many_freed": ("web", "freed"), "first_freed": ("web", "freed"),
+    },
+    "basetrees.told": {
+        "how_many_told": ("web", "told"), "first_told": ("web", "told"), "quarrels": ("web", "told"),
+        "judge_told": ("web", "told", "source", "copy"), "striking": ("web", "told"),
+    },
 }
 CLASSES = {
     "basetrees.webs": {

@@ -2,14 +2,23 @@
 
 import unittest
 
+from basetrees.choices import choice_at, how_many, is_choice, kept, number_of
+from basetrees.gaps import first_freed, freeing, gaps, how_many_freed
+from basetrees.judging import judge, shares, sure_lines
+from basetrees.told import first_told, how_many_told, judge_told, quarrels, striking
 from basetrees.webs import Web
 from basetrees.zigzags import kinds, ways, zigzag_of, zigzags
 from cases import least_time
 from plain import beside
-from samples import chain
+from samples import chain, drawn_told, drawn_with_choices, long_row, single_file, stacked_rings
 
 # All its 77 lines are in one zigzag.
 LONGEST = chain(40, (2, 1))
+GREAT = (LONGEST, chain(40, (2,)), stacked_rings(39), single_file(40), long_row("ring"), long_row("wide"),
+         drawn_with_choices(1, 36))
+
+# In seconds; each call takes less than a hundredth of it.
+SOON = 0.05
 
 
 def compare_all(web):
@@ -35,6 +44,12 @@ class ZigzagsTest(unittest.TestCase):
         taken = least_time(lambda: [zigzag_of(web, source, copy) for source, copy in web.lines], 5)
         self.assertLess(taken, limit * len(web.lines))
 
+    def test_later_functions(self):
+        web = Web(LONGEST)
+        limit = least_time(lambda: compare_all(web), 10)
+        for call in (how_many, sure_lines, shares, gaps, freeing):
+            self.assertLess(least_time(lambda: call(web), 30), limit)
+
 
 class WebsTest(unittest.TestCase):
     def test_no_source_needs_a_look_through_all_copies(self):
@@ -46,6 +61,43 @@ class WebsTest(unittest.TestCase):
         self.assertLess(least_time(lambda: Web(LONGEST), 50), limit)
         self.assertLess(least_time(lambda: web.without(last), 50), limit)
         self.assertLess(least_time(lambda: less.with_copy(last, sources), 50), limit)
+
+
+class SoonTest(unittest.TestCase):
+    def assert_soon(self, call, *args):
+        self.assertLess(least_time(lambda: call(*args), 3), SOON)
+
+    def test_great_webs(self):
+        for text in GREAT:
+            web = Web(text)
+            chosen = choice_at(web, how_many(web) - 1)
+            for call in (how_many, sure_lines, shares, gaps, freeing):
+                self.assert_soon(call, web)
+            for call in (number_of, kept, is_choice):
+                self.assert_soon(call, web, chosen)
+            self.assert_soon(choice_at, web, how_many(web) - 1)
+            self.assert_soon(judge, web, *web.lines[-1])
+
+    def test_freed_names(self):
+        for text in (*GREAT, long_row("short")):
+            web = Web(text)
+            names = [name for name in web.names if name not in web.ends]
+            for freed in ((), tuple(names[:8]), tuple(names[-8:]), tuple(names[::4][:8])):
+                self.assert_soon(how_many_freed, web, freed)
+                self.assert_soon(first_freed, web, freed)
+
+    def test_twelve_told_lines(self):
+        for text in GREAT:
+            web = Web(text)
+            lines = web.lines[3:15]
+            several = [drawn_told(5, web, 12), tuple([(*line, True) for line in lines])]
+            several.append(tuple([(*line, at % 4 < 2) for at, line in enumerate(lines)]))
+            for told in several:
+                self.assertEqual(len(told), 12)
+                for call in (how_many_told, first_told, quarrels, striking):
+                    self.assert_soon(call, web, told)
+            chosen = kept(web, choice_at(web, 0))
+            self.assert_soon(judge_told, web, tuple([(*line, True) for line in chosen[:12]]), *web.lines[-1])
 
 
 if __name__ == "__main__":
