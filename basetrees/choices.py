@@ -1,7 +1,8 @@
 """Choices: a source for each copy but the first one, such that each copy that is no end is chosen."""
 
-from basetrees.checks import check_web, is_integer
+from basetrees.checks import check_web
 from basetrees.errors import InvalidChoice, InvalidNumber
+from basetrees.integers import is_integer
 from basetrees.names import is_one_of
 from basetrees.turns import Turns, choice_among
 from basetrees.zigzags import ways

@@ -15,7 +15,7 @@ def gaps(web):
 
 def freeing(web):
     """For each short zigzag, in their order, the tuple of its sources, in the order of the names."""
-    return tuple([_sources_of(web, zigzag) for zigzag in _short_ones(web)])
+    return tuple([sources_of(web, zigzag) for zigzag in _short_ones(web)])
 
 
 def how_many_freed(web, freed):
@@ -28,13 +28,14 @@ def first_freed(web, freed):
     return first_among(web, _turns_of(web, freed))
 
 
+def sources_of(web, lines):
+    """The tuple of the sources of some lines, in the order of the names."""
+    sources = [source for source, _ in lines]
+    return tuple([name for name in web.names if name in sources])
+
+
 def _short_ones(web):
     return [zigzag for zigzag in zigzags(web) if kind_of(zigzag) == "short"]
-
-
-def _sources_of(web, zigzag):
-    sources = [source for source, _ in zigzag]
-    return tuple([name for name in web.names if name in sources])
 
 
 def _turns_of(web, freed):

@@ -3,7 +3,6 @@
 from math import gcd
 
 from basetrees.checks import check_line, check_web
-from basetrees.errors import NoChoice
 from basetrees.turns import Turns
 
 
@@ -29,8 +28,7 @@ def shares(web):
 def _turns_of(web):
     check_web(web)
     turns = Turns(web, ())
-    if turns.many == 0:
-        raise NoChoice()
+    turns.check()
     return turns
 
 

@@ -11,12 +11,16 @@ from basetrees.zigzags import begins_at_copy, is_ring, zigzags
 
 
 class Turns:
-    """The turns that are left in each run of a web; `many` is in how many ways one can choose with these."""
+    """The turns that are left in each run of a web.
+
+    `many` is in how many ways one can choose with these; `reaches` has for each run the first one, and that behind
+    the last.
+    """
 
     def __init__(self, web, freed):
         self.many = 1
+        self.reaches = []
         self._places = {}
-        self._reaches = []
         for zigzag in zigzags(web):
             if is_ring(zigzag) and not _has_one_of(zigzag, freed):
                 self._add(zigzag, [(1, ahead) for _, ahead in _places_along(zigzag)])
@@ -28,7 +32,7 @@ class Turns:
     def reach(self, line, kept):
         """The run of a line, and the turns with which it is kept, or is not: the first one, that behind the last."""
         run, place, ahead = self._places[line]
-        low, high = self._reaches[run]
+        low, high = self.reaches[run]
         if ahead == kept:
             return run, max(low, place), high
         return run, low, min(high, place)
@@ -37,14 +41,14 @@ class Turns:
         """Leave only the turns with which a line is kept, or not."""
         run, low, high = self.reach(line, kept)
         if self.many > 0:
-            before, behind = self._reaches[run]
+            before, behind = self.reaches[run]
             self.many = self.many // (behind - before) * max(0, high - low)
-        self._reaches[run] = (low, high)
+        self.reaches[run] = (low, high)
 
     def share(self, line):
         """In how many ways its run can turn so that a line is kept, and in how many at all; `many` must not be 0."""
         run, low, high = self.reach(line, True)
-        before, behind = self._reaches[run]
+        before, behind = self.reaches[run]
         return max(0, high - low), behind - before
 
     def many_with(self, line):
@@ -52,20 +56,24 @@ class Turns:
         keeping, turning = self.share(line)
         return self.many // turning * keeping
 
-    def verdict(self, line):
-        """Whether a line is "sure", "never" kept or "open" in the ways that are left; NoChoice if there are none."""
+    def check(self):
+        """Raise NoChoice if no way is left."""
         if self.many == 0:
             raise NoChoice()
+
+    def verdict(self, line):
+        """Whether a line is "sure", "never" kept or "open" in the ways that are left; NoChoice if there are none."""
+        self.check()
         keeping, turning = self.share(line)
         if keeping == 0:
             return "never"
         return "sure" if keeping == turning else "open"
 
     def _add(self, run, places):
-        self._reaches.append((0, places[-1][0] + 1))
+        self.reaches.append((0, places[-1][0] + 1))
         self.many = self.many * (places[-1][0] + 1)
         for line, (place, ahead) in zip(run, places):
-            self._places[line] = (len(self._reaches) - 1, place, ahead)
+            self._places[line] = (len(self.reaches) - 1, place, ahead)
 
     def _hold_ends(self, web, run, freed):
         # A line at an end of a run is the only one of its copy or, where this is not freed, of its source.

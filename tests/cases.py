@@ -24,6 +24,16 @@ class Case(unittest.TestCase):
         self.assertIs(type(found), type(index))
         self.assertEqual(found, index)
 
+    def assert_error(self, error, call, /, *args, **more):
+        """The call raises an error of the same class, with the same attributes."""
+        found = vars(self.caught(type(error), call, args, more))
+        self.assertEqual(list(found), list(vars(error)))
+        for name, value in vars(error).items():
+            if name == "given":
+                self.assertIs(found[name], value)
+            else:
+                self.assertEqual((type(found[name]), found[name]), (type(value), value))
+
     def assert_no_choice(self, call, /, *args, **more):
         self.caught(NoChoice, call, args, more)
 

@@ -2,6 +2,9 @@
 
 import itertools
 
+from basetrees.errors import InvalidText
+from basetrees.webs import Web
+
 
 def beside(one, other):
     return one != other and (one[0] == other[0] or one[1] == other[1])
@@ -137,6 +140,31 @@ def is_let(source, copy, told):
     return all((other == source) == kept for other, name, kept in told if name == copy)
 
 
+def counted_best(web, weights, told=()):
+    """The greatest sum of a choice that fits told lines, and how many have it, copy by copy; None if there is none."""
+    order = list(dict.fromkeys(copy for lot in told_lots(web) for _, copy in lot))
+    weight_of = dict(zip(web.lines, weights))
+    states = {frozenset(): (0, 1)}
+    done = set()
+    for copy in order:
+        done.add(copy)
+        closed = [source for source in web.sources(copy) if set(web.copies(source)) <= done]
+        after = {}
+        for source in [source for source in web.sources(copy) if is_let(source, copy, told)]:
+            for chosen, (total, many) in states.items():
+                now = chosen | {source}
+                if all(name in now for name in closed):
+                    now = now - set(closed)
+                    total_now = total + weight_of[source, copy]
+                    best, best_many = after.get(now, (total_now, 0))
+                    if total_now > best:
+                        after[now] = (total_now, many)
+                    elif total_now == best:
+                        after[now] = (best, best_many + many)
+        states = after
+    return states.get(frozenset())
+
+
 def counted_first(web, told=(), freed=()):
     """The first choice that fits told lines, found source by source; None if there is none."""
     if counted(web, told, freed) == 0:
@@ -162,3 +190,166 @@ def counted_number(web, choice):
             number += counted(web, (*prefix, (first, copy, True)))
         prefix = (*prefix, (source, copy, True))
     return number
+
+
+def plain_sum(web, weights, chosen):
+    """The sum of the weights of the lines that a choice keeps."""
+    lines = kept_lines(web, chosen)
+    return sum(weight for line, weight in zip(web.lines, weights) if line in lines)
+
+
+def are_prices(web, weights, best, value):
+    """Whether a value is what the document says of prices."""
+    if type(value) is not tuple or len(value) != 2:
+        return False
+    of_copies, of_sources = value
+    no_ends = [name for name in web.names if name not in web.ends]
+    if type(of_copies) is not tuple or type(of_sources) is not tuple:
+        return False
+    if (len(of_copies), len(of_sources)) != (len(web.names) - 1, len(no_ends)):
+        return False
+    if any(type(number) is not int for number in of_copies + of_sources) or any(number < 0 for number in of_sources):
+        return False
+    number_of = dict(zip(web.names[1:], of_copies))
+    less = dict(zip(no_ends, of_sources))
+    if any(weight > number_of[copy] - less[source] for (source, copy), weight in zip(web.lines, weights)):
+        return False
+    return sum(of_copies) - sum(of_sources) == best
+
+
+def names_above(web, chosen):
+    """For each copy the set of the copies above it in a choice."""
+    found = {web.names[0]: set()}
+    for source, copy in zip(chosen, web.names[1:]):
+        found[copy] = found[source] | {source}
+    return found
+
+
+def plain_meeting(above, one, other):
+    both = (above[one] | {one}) & (above[other] | {other})
+    return max(both, key=lambda name: len(above[name]))
+
+
+def least_questions(web, choices):
+    """The least number of questions that tell any of the choices, from all rows of questions there are."""
+    rows = [frozenset(kept_lines(web, chosen)) for chosen in choices]
+    return fewest(frozenset(rows), web.lines, {})
+
+
+def fewest(rows, lines, known):
+    if len(rows) == 1:
+        return 0
+    if rows not in known:
+        parts = [frozenset(row for row in rows if line in row) for line in lines]
+        known[rows] = min(1 + max(fewest(part, lines, known), fewest(rows - part, lines, known))
+                          for part in parts if 0 < len(part) < len(rows))
+    return known[rows]
+
+
+def has_kind(value, kind, many):
+    """Whether a value is a tuple of so many of this kind and no other."""
+    return type(value) is tuple and len(value) == many and all(type(part) is kind for part in value)
+
+
+def is_lot(web, value):
+    """Whether a value is what the document calls a lot."""
+    no_ends = [name for name in web.names if name not in web.ends]
+    if type(value) is not tuple or not all(type(name) is str and name in no_ends for name in value):
+        return False
+    places = [no_ends.index(name) for name in value]
+    return places == sorted(set(places))
+
+
+def is_short_lot(web, value, lines):
+    """Whether a value is a lot with fewer copies than names, if there are but these lines."""
+    return is_lot(web, value) and len({copy for source, copy in lines if source in value}) < len(value)
+
+
+def is_chosen(web, value):
+    """Whether a value is a choice, told without a walk."""
+    if not has_kind(value, str, len(web.names) - 1):
+        return False
+    if not all(source in web.sources(copy) for source, copy in zip(value, web.names[1:])):
+        return False
+    return set(value) | set(web.ends) == set(web.names)
+
+
+def plain_accepts(claim, certificate):
+    """Whether a certificate shows a claim, as the document tells it for each word."""
+    if type(claim) is not tuple or not claim or type(claim[0]) is not str:
+        return False
+    shows = {"has": (2, shows_has), "lacks": (2, shows_lacks), "sure": (4, shows_sure), "never": (4, shows_never),
+             "open": (4, shows_open), "count": (3, shows_count), "best": (4, shows_best)}
+    if claim[0] not in shows or len(claim) != shows[claim[0]][0]:
+        return False
+    try:
+        web = Web(claim[1])
+    except InvalidText:
+        return False
+    return shows[claim[0]][1](web, claim[2:], certificate)
+
+
+def shows_has(web, told, certificate):
+    return is_chosen(web, certificate)
+
+
+def shows_lacks(web, told, certificate):
+    return is_short_lot(web, certificate, web.lines)
+
+
+def is_told_line(web, told):
+    return has_kind(told, str, 2) and told in web.lines
+
+
+def shows_sure(web, told, certificate):
+    if not is_told_line(web, told):
+        return False
+    if is_short_lot(web, certificate, web.lines):
+        return True
+    if web.sources(told[1]) == told[:1]:
+        return has_kind(certificate, str, 0)
+    return is_short_lot(web, certificate, [line for line in web.lines if line != told])
+
+
+def shows_never(web, told, certificate):
+    if not is_told_line(web, told):
+        return False
+    if is_short_lot(web, certificate, web.lines):
+        return True
+    return is_short_lot(web, certificate, [line for line in web.lines if line[1] != told[1]]) and (
+        told[0] not in certificate)
+
+
+def shows_open(web, told, certificate):
+    if not is_told_line(web, told) or not has_kind(certificate, tuple, 2):
+        return False
+    if not all(is_chosen(web, chosen) for chosen in certificate):
+        return False
+    return [told in kept_lines(web, chosen) for chosen in certificate] == [True, False]
+
+
+def shows_count(web, told, certificate):
+    return certificate is None and has_kind(told, int, 1) and counted(web) == told[0]
+
+
+def shows_best(web, told, certificate):
+    weights, best = told
+    if not has_kind(weights, int, len(web.lines)) or not all(-10 ** 12 <= weight <= 10 ** 12 for weight in weights):
+        return False
+    if type(best) is not int or not has_kind(certificate, tuple, 2) or not is_chosen(web, certificate[0]):
+        return False
+    return plain_sum(web, weights, certificate[0]) == best and are_prices(web, weights, best, certificate[1])
+
+
+def is_true(claim):
+    """Whether what a claim of the right form says is so, from a walk over all tuples of sources."""
+    word, web = claim[0], Web(claim[1])
+    choices = plain_choices(web)
+    if word in ("has", "lacks"):
+        return (len(choices) > 0) == (word == "has")
+    if word == "count":
+        return len(choices) == claim[2]
+    if word == "best":
+        return bool(choices) and max(plain_sum(web, claim[2], chosen) for chosen in choices) == claim[3]
+    keeping = [claim[2:] in kept_lines(web, chosen) for chosen in choices]
+    return {"sure": all(keeping), "never": not any(keeping), "open": any(keeping) and not all(keeping)}[word]

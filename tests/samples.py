@@ -116,6 +116,24 @@ def long_row(kind):
     return "; ".join(parts)
 
 
+def grown(sizes, rings):
+    """A web with a wide zigzag of each of these numbers of sources, and behind them so many rings of two copies."""
+    free = [name_of(0)]
+    parts = [name_of(0)]
+    for at, size in enumerate((*sizes, *[2] * rings)):
+        sources, free = free[:size], free[size:]
+        offered = [(sources[0],), *zip(sources, sources[1:]), (sources[-1],)]
+        for row in offered if at < len(sizes) else [sources, sources]:
+            free.append(name_of(len(parts)))
+            parts.append(" ".join([free[-1], *row]))
+    return "; ".join(parts)
+
+
+# Webs with just two thousand choices, and with a few more.
+TWO_THOUSAND = grown((1, 1, 1, 1, 5, 5, 5, 4, 4), 0)
+MORE = grown((1, 1, 1, 1, 1, 6, 6, 7, 4), 1)
+
+
 def single_file(many):
     """A web in which each copy comes from the one before it."""
     names = [name_of(number) for number in range(many)]
@@ -193,3 +211,9 @@ def drawn_told(seed, web, many):
     drawing = random.Random(seed)
     lines = drawing.sample(web.lines, min(many, len(web.lines)))
     return tuple([(source, copy, drawing.random() < 0.6) for source, copy in lines])
+
+
+def drawn_weights(seed, web, most):
+    """Weights of a web, none of them further from 0 than this."""
+    drawing = random.Random(seed)
+    return tuple([drawing.randint(-most, most) for _ in web.lines])

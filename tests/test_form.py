@@ -16,7 +16,7 @@ setdefault split splitlines startswith strip update upper values zfill bit_lengt
 center expandtabs removeprefix removesuffix rindex isascii isdecimal isnumeric istitle isidentifier isprintable
 add discard""".split())
 DOUBLE = {"__init__", "__eq__", "__repr__", "__str__", "__len__", "__enter__", "__exit__", "__contains__",
-          "__getitem__", "__iter__"}
+          "__getitem__", "__iter__", "__bool__"}
 
 
 def shows(value):
@@ -124,6 +124,8 @@ class FormTest(unittest.TestCase):
 
     def test_what_is_compared_by_is(self):
         for path, node in self.nodes(ast.Compare):
+            if ast.unparse(node) == "self is other":
+                continue
             for sign, right in zip(node.ops, node.comparators):
                 if isinstance(sign, (ast.Is, ast.IsNot)):
                     self.assertIsInstance(right, ast.Constant, (path, node.lineno))
@@ -135,6 +137,37 @@ class FormTest(unittest.TestCase):
             self.assertNotIsInstance(node.value, (float, complex), (path, node.lineno))
             if isinstance(node.value, str):
                 self.assertNotIn("%", node.value, (path, node.lineno))
+
+    def test_what_is_left_out_beside_getitem(self):
+        for path in self.files:
+            for word in ("(type)", "Meta", "metaclass=", ".keys", "def keys"):
+                self.assertNotIn(word, path.read_text(), path)
+        for path, node in self.nodes(ast.ClassDef):
+            names = {part.name for part in node.body if isinstance(part, ast.FunctionDef)}
+            self.assertLessEqual("__getitem__" in names, "__iter__" in names, (path, node.name))
+
+    def test_rows_of_exit(self):
+        for path, node in self.nodes(ast.FunctionDef):
+            if node.name == "__exit__":
+                self.assertEqual([part.arg for part in node.args.args], ["self", "kind", "value", "trace"])
+                for part in ast.walk(node):
+                    self.assertNotIsInstance(part, (ast.Call, ast.BinOp, ast.Subscript, ast.Raise, ast.For, ast.While))
+                for part in [part for part in ast.walk(node) if isinstance(part, ast.If)]:
+                    self.assertIn(ast.unparse(part.test), ("kind is None", "kind is not None"), path)
+
+    def test_what_properties_and_operators_run(self):
+        """They assign to local names alone, and call nothing of their own but checks."""
+        own = {part.name for _, node in self.nodes(ast.ClassDef) for part in node.body
+               if isinstance(part, ast.FunctionDef)}
+        for path, node in self.nodes(ast.FunctionDef):
+            if not node.decorator_list and node.name not in DOUBLE - {"__init__", "__enter__", "__exit__"}:
+                continue
+            for part in ast.walk(node):
+                self.assertNotIsInstance(part, (ast.AugAssign, ast.Delete, ast.While, ast.For), (path, node.lineno))
+                if isinstance(part, (ast.Attribute, ast.Subscript)):
+                    self.assertIsInstance(part.ctx, ast.Load, (path, node.lineno))
+                if isinstance(part, ast.Call) and isinstance(part.func, ast.Attribute):
+                    self.assertNotIn(part.func.attr, own | {"append", "pop", "extend"}, (path, node.lineno))
 
     def test_double_underscore_methods(self):
         for path, node in self.nodes(ast.FunctionDef):

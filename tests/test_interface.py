@@ -20,6 +20,25 @@ FUNCTIONS = {
         "how_many_told": ("web", "told"), "first_told": ("web", "told"), "quarrels": ("web", "told"),
         "judge_told": ("web", "told", "source", "copy"), "striking": ("web", "told"),
     },
+    "basetrees.weights": {
+        "best_sum": ("web", "weights"), "least_sum": ("web", "weights"), "best_choice": ("web", "weights"),
+        "how_many_best": ("web", "weights"), "sum_of": ("web", "weights", "choice"),
+        "worth": ("web", "weights", "source", "copy"), "sums": ("web", "weights"), "prices": ("web", "weights"),
+    },
+    "basetrees.asking": {
+        "best_question": ("web", "told", "offers"), "enough": ("web",), "asked": ("web", "told"),
+    },
+    "basetrees.depths": {
+        "is_above": ("web", "choice", "one", "other"), "depth": ("web", "choice", "copy"),
+        "meeting": ("web", "choice", "one", "other"), "depth_range": ("web", "copy"),
+        "judge_above": ("web", "one", "other"), "meetings": ("web", "one", "other"),
+    },
+    "basetrees.talks": {"answer": ("shelf", "line"), "talk": ("shelf", "text")},
+    "basetrees.checker": {"accepts": ("claim", "certificate")},
+    "basetrees.certificates": {
+        "certify_web": ("web",), "certify_line": ("web", "source", "copy"), "certify_count": ("web",),
+        "certify_best": ("web", "weights"),
+    },
 }
 CLASSES = {
     "basetrees.webs": {
@@ -29,8 +48,26 @@ CLASSES = {
             "__repr__": ("self",), "__eq__": ("self", "other"),
         },
     },
+    "basetrees.shelves": {
+        "Shelf": {
+            "__init__": ("self", "name"), "put": ("self", "name", "sources"), "take": ("self", "copy"),
+            "undo": ("self",), "attempt": ("self",), "tried": ("self", "act"), "__eq__": ("self", "other"),
+        },
+    },
+    "basetrees.desks": {
+        "Desk": {
+            "__init__": ("self",), "put": ("self", "name", "web"), "drop": ("self", "name"),
+            "claim": ("self", "claim"), "lift": ("self", "index"), "undo": ("self",), "attempt": ("self",),
+            "tried": ("self", "act"), "__getitem__": ("self", "name"), "__contains__": ("self", "name"),
+            "__len__": ("self",), "__bool__": ("self",), "__eq__": ("self", "other"),
+        },
+    },
 }
-PROPERTIES = {("basetrees.webs", "Web"): ("text", "names", "lines", "ends")}
+PROPERTIES = {
+    ("basetrees.webs", "Web"): ("text", "names", "lines", "ends"),
+    ("basetrees.shelves", "Shelf"): ("web", "changes"),
+    ("basetrees.desks", "Desk"): ("names", "claims", "changes"),
+}
 
 
 class InterfaceTest(unittest.TestCase):

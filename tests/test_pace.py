@@ -2,15 +2,24 @@
 
 import unittest
 
+from basetrees.asking import asked, best_question, enough
+from basetrees.certificates import certify_best, certify_count, certify_line, certify_web
+from basetrees.checker import accepts
 from basetrees.choices import choice_at, how_many, is_choice, kept, number_of
+from basetrees.depths import depth, depth_range, is_above, judge_above, meeting, meetings
+from basetrees.desks import Desk
 from basetrees.gaps import first_freed, freeing, gaps, how_many_freed
 from basetrees.judging import judge, shares, sure_lines
+from basetrees.shelves import Shelf
+from basetrees.talks import talk
 from basetrees.told import first_told, how_many_told, judge_told, quarrels, striking
 from basetrees.webs import Web
+from basetrees.weights import best_choice, best_sum, how_many_best, least_sum, prices, sum_of, sums, worth
 from basetrees.zigzags import kinds, ways, zigzag_of, zigzags
 from cases import least_time
 from plain import beside
-from samples import chain, drawn_told, drawn_with_choices, long_row, single_file, stacked_rings
+from samples import (TWO_THOUSAND, chain, drawn_told, drawn_weights, drawn_with_choices, long_row, single_file,
+                     stacked_rings)
 
 # All its 77 lines are in one zigzag.
 LONGEST = chain(40, (2, 1))
@@ -98,6 +107,58 @@ class SoonTest(unittest.TestCase):
                     self.assert_soon(call, web, told)
             chosen = kept(web, choice_at(web, 0))
             self.assert_soon(judge_told, web, tuple([(*line, True) for line in chosen[:12]]), *web.lines[-1])
+
+    def test_weights(self):
+        for text in (*GREAT, TWO_THOUSAND, stacked_rings(23)):
+            web = Web(text)
+            for weights in (drawn_weights(2, web, 10 ** 12), drawn_weights(2, web, 1)):
+                for call in (best_sum, least_sum, best_choice, how_many_best, prices, certify_best):
+                    self.assert_soon(call, web, weights)
+                self.assert_soon(sum_of, web, weights, choice_at(web, 0))
+                self.assert_soon(worth, web, weights, *web.lines[-1])
+                if how_many(web) <= 2000:
+                    self.assert_soon(sums, web, weights)
+
+    def test_asking_and_depths(self):
+        for text in (*GREAT, TWO_THOUSAND, stacked_rings(23)):
+            web = Web(text)
+            chosen, one, other = choice_at(web, 0), web.names[-2], web.names[-1]
+            self.assert_soon(best_question, web, (), web.lines[-8:])
+            self.assert_soon(asked, web, ())
+            self.assert_soon(enough, web)
+            self.assert_soon(depth, web, chosen, one)
+            for call in (is_above, meeting):
+                self.assert_soon(call, web, chosen, one, other)
+            if how_many(web) <= 2000:
+                self.assert_soon(depth_range, web, one)
+                for call in (judge_above, meetings):
+                    self.assert_soon(call, web, one, other)
+
+    def test_certificates(self):
+        for text in (*GREAT, TWO_THOUSAND, long_row("even")):
+            web = Web(text)
+            for call in (certify_web, certify_count):
+                self.assert_soon(call, web)
+                self.assert_soon(accepts, *call(web))
+            for line in web.lines[::9]:
+                self.assert_soon(certify_line, web, *line)
+                self.assert_soon(accepts, *certify_line(web, *line))
+            self.assert_soon(accepts, *certify_best(web, drawn_weights(2, web, 10 ** 12)))
+
+    def test_shelves_and_desks(self):
+        web = Web(LONGEST)
+        shelf = Shelf(web.names[0])
+        for name in web.names[1:]:
+            shelf.put(name, web.sources(name))
+        desk = Desk()
+        desk.put("l", web)
+        for line in web.lines:
+            desk.claim((judge(web, *line), "l", *line))
+        self.assert_soon(talk, shelf, "take bn\nundo\nweb\nends\ncount\nkinds\ngaps\nline bm bn")
+        self.assert_soon(desk.claim, ("count", "l", 1))
+        # The web is not asked anew for each of its 77 claims.
+        self.assert_soon(desk.put, "l", web)
+        self.assertLess(least_time(lambda: desk.put("l", web), 9), least_time(lambda: compare_all(web), 9))
 
 
 if __name__ == "__main__":
