@@ -1,6 +1,6 @@
 """Asking: which questions to ask about an unknown choice, to each of which a line is kept or is not."""
 
-from basetrees.checks import check_web, is_line
+from basetrees.checks import is_line
 from basetrees.errors import InvalidOffers, NoChoice
 from basetrees.limits import MOST_OFFERS
 from basetrees.told import turns_told
@@ -18,7 +18,6 @@ def best_question(web, told, offers):
 
 def enough(web):
     """The least number of questions with which one can tell any choice."""
-    check_web(web)
     all_ways = ways(web)
     if 0 in all_ways:
         raise NoChoice()
@@ -29,7 +28,6 @@ def enough(web):
 def asked(web, told):
     """The tuple of the lines that are neither sure nor never kept in the choices that fit the told lines."""
     turns = turns_told(web, told)
-    turns.check()
     return tuple([line for line in web.lines if turns.verdict(line) == "open"])
 
 

@@ -43,7 +43,7 @@ def depth_range(web, copy):
     check_known(copy, web.names)
     everywhere, keeping = _bits_of(web)
     tables = {web.names[0]: {0: everywhere}}
-    for name in web.names[1:web.names.index(copy) + 1]:
+    for name in web.names[1:]:
         tables[name] = _depths_of(web, name, tables, keeping)
     return min(tables[copy]), max(tables[copy])
 
@@ -55,9 +55,8 @@ def judge_above(web, one, other):
     everywhere, keeping = _bits_of(web)
     below = {name: 0 for name in web.names}
     below[one] = everywhere
-    for copy in web.names[web.names.index(one) + 1:]:
-        for source in web.sources(copy):
-            below[copy] = below[copy] | (below[source] & keeping[source, copy])
+    for source, copy in web.lines:
+        below[copy] = below[copy] | (below[source] & keeping[source, copy])
     if below[other] == everywhere:
         return "sure"
     return "open" if below[other] else "never"
@@ -129,7 +128,6 @@ def _above(web, copy, everywhere, keeping):
     """For each name a number with the bits of the choices in which it is this copy, or lies above it."""
     above = {name: 0 for name in web.names}
     above[copy] = everywhere
-    for name in web.names[:0:-1]:
-        for source in web.sources(name):
-            above[source] = above[source] | (above[name] & keeping[source, name])
+    for source, name in web.lines[::-1]:
+        above[source] = above[source] | (above[name] & keeping[source, name])
     return above

@@ -108,7 +108,7 @@ def _turns_and_sums(web, weights):
     """The turns of a web, and for each run a dict with the sum of the lines that are kept at each of its turns."""
     turns = Turns(web, ())
     turns.check()
-    tables = [{turn: 0 for turn in range(low, high)} for low, high in turns.reaches]
+    tables = [{at: 0 for at in range(first, behind)} for first, behind in turns.reaches]
     for line, weight in zip(web.lines, weights):
         run, low, high = turns.reach(line, True)
         for turn in range(low, high):

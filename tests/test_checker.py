@@ -287,7 +287,8 @@ class AnyValueTest(CheckerCase):
             for value in (*ODD, *ODD_TUPLES, Web(EVEN)):
                 for certificate in (value, (value,), (value, value), ("a", value), (value, ("b", "c")),
                                     (("a", "b", "c"), value), (("a", "b", "c"), (value, value)),
-                                    (("a", "b", "c"), ((0, 0, 0), value)), (("a", "b", "c"), ((0, 0, value), (0, 0, 0))),
+                                    (("a", "b", "c"), ((0, 0, 0), value)),
+                                    (("a", "b", "c"), ((0, 0, value), (0, 0, 0))),
                                     (("a", "b", "c"), ((0, 0, 0), (0, value, 0)))):
                     self.assert_as_told(claim, certificate)
 
@@ -302,8 +303,8 @@ class AnyValueTest(CheckerCase):
                     self.assert_as_told((word, text, *Web(text).lines[-1]), value)
 
     def test_texts_that_are_none(self):
-        for text in ("", "a;", "a; b", "a; b c", "a a", "a; a a", "a; b a a", "A", "a; b a; c a; d a", "a ; b a", 0, None,
-                     (), b"a", ["a"], ("a",), single_file(40) + "; z bn", "abcdefghi"):
+        for text in ("", "a;", "a; b", "a; b c", "a a", "a; a a", "a; b a a", "A", "a; b a; c a; d a", "a ; b a", 0,
+                     None, (), b"a", ["a"], ("a",), single_file(40) + "; z bn", "abcdefghi"):
             for word in WORDS:
                 for claim in ((word, text), (word, text, 1), (word, text, "a", "b"), (word, text, (), 0)):
                     for certificate in (None, (), ("a",), ((), ((), ()))):

@@ -79,25 +79,23 @@ class PlainWalkTest(WalkCase):
             for chosen in choices[::3]:
                 self.assert_in_one(web, chosen, pairs)
 
+    def test_drawn_webs(self):
+        for seed in range(60):
+            web = Web(drawn_with_choices(seed, 9 + seed % 8, 85))
+            if how_many(web) < 100:
+                pairs = list(itertools.permutations(web.names, 2))[seed % 9::9]
+                self.assert_in_all(web, all_choices(web), pairs, web.names)
+
     def test_great_webs(self):
-        for at, text in enumerate((chain(40, (2,)), chain(40, (1,)), chain(40, (2, 1)), stacked_rings(13) + tail(13, 27),
-                                   single_file(40), long_row("ring"), long_row("wide"), long_row("even"))):
+        single = "; ".join([f"z{letter} {source}" for letter, source in zip(
+            "abcdefghijklmnopqrstuvwxy", ["am", *[f"z{letter}" for letter in "abcdefghijklmnopqrstuvwxy"]])])
+        for at, text in enumerate((
+                chain(40, (2,)), chain(40, (1,)), chain(40, (2, 1)), f"{stacked_rings(13)}; {single}",
+                single_file(40), long_row("ring"), long_row("wide"), long_row("even"))):
             web = Web(text)
-            choices = all_choices(web)
             pairs = list(itertools.permutations(web.names, 2))[at % 9::53]
-            self.assert_in_all(web, choices, [*pairs, web.names[-2:]], web.names[-3:])
-            self.assert_in_one(web, choices[-1], pairs)
-
-
-def tail(start, many):
-    """Copies behind a web, each from the one before it; it is the end called by a number."""
-    names = ["".join(pair) for pair in itertools.product("z", "abcdefghijklmnopqrstuvwxyz")] + ["yy"]
-    last = "a" + "abcdefghijklmnopqrstuvwxyz"[start - 1]
-    parts = []
-    for name in names[:many]:
-        parts.append(f"; {name} {last}")
-        last = name
-    return "".join(parts)
+            self.assert_in_all(web, all_choices(web), [*pairs, web.names[-2:]], web.names[-3:])
+            self.assert_in_one(web, choice_at(web, how_many(web) - 1), pairs)
 
 
 class ManyChoicesTest(WalkCase):

@@ -16,7 +16,8 @@ from samples import (EVEN, LONG, NO_NAMES, ODD, ODD_TUPLES, PLAIN, RING, SHORT, 
 NO_CLAIMS = (
     *ODD, *ODD_TUPLES, "has", "sure", ["has", "l"], ("has",), ("has", "l", "l"), ("Has", "l"), ("lacks", "l"),
     ("open", "l", "a", "b"), ("best", "l", 1), ("", "l"), (None, "l"), (("has",), "l"), (["has"], "l"),
-    (EqualToAll(), "l"), (Touchy(), "l"), (b"has", "l"), ("sure", "l"), ("sure", "l", "a"), ("sure", "l", "a", "b", "c"),
+    (EqualToAll(), "l"), (Touchy(), "l"), (b"has", "l"), ("sure", "l"), ("sure", "l", "a"),
+    ("sure", "l", "a", "b", "c"),
     ("sure", "l", None, "b"), ("sure", "l", "a", None), ("sure", "l", 0, "b"), ("sure", "l", ("a",), "b"),
     ("sure", "l", "a", ["b"]), ("sure", "l", EqualToAll(), "b"), ("sure", "l", "a", Touchy()), ("sure", "l", b"a", "b"),
     ("sure", "l", ("a", "b")), ("never", "l"), ("never", "l", "a"), ("never", "l", "a", 1), ("never", "l", True, "b"),
@@ -210,8 +211,9 @@ class ClaimsTest(DeskCase):
     def test_one_that_does_not_hold(self):
         desk = desk_of(WIDE, ("has", "l"), ("has", "l"))
         desk.put("m", Web(SHORT))
-        for claim, told in ((("has", "m"), False), (("sure", "l", "b", "e"), "open"), (("never", "l", "b", "d"), "sure"),
-                            (("never", "l", "c", "e"), "open"), (("count", "l", 3), 2), (("count", "m", 1), 0),
+        for claim, told in ((("has", "m"), False), (("sure", "l", "b", "e"), "open"),
+                            (("never", "l", "b", "d"), "sure"), (("never", "l", "c", "e"), "open"),
+                            (("count", "l", 3), 2), (("count", "m", 1), 0),
                             (("count", "l", -1), 2), (("copies", "l", 5), 6), (("copies", "m", 6), 4),
                             (("sure", "l", "d", "b"), None), (("never", "l", "a", "a"), None),
                             (("sure", "l", "", "b"), None), (("never", "l", "a", "no name"), None),

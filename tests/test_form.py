@@ -8,7 +8,8 @@ import unittest
 PACKAGE = pathlib.Path(__file__).resolve().parent.parent / "basetrees"
 BUILTINS = set("""len range enumerate zip min max sum abs sorted reversed int str bool bytes list tuple dict set
 frozenset isinstance ord repr any all divmod pow Exception ValueError TypeError KeyError IndexError LookupError
-ZeroDivisionError ArithmeticError OverflowError RuntimeError NotImplementedError AttributeError property super""".split())
+ZeroDivisionError ArithmeticError OverflowError RuntimeError NotImplementedError AttributeError
+property super""".split())
 LIBRARY = {"math": {"gcd"}}
 METHODS = set("""append clear copy count endswith extend find get index insert isalnum isalpha isdigit islower isspace
 isupper items join keys ljust lower lstrip partition pop remove replace reverse rfind rjust rpartition rsplit rstrip

@@ -15,12 +15,15 @@ from samples import (EVEN, LONG, NO_NAMES, ODD, ODD_TUPLES, PLAIN, RING, SHORT, 
 
 NO_LINES = (
     *[name for name in NO_NAMES if name != "a; b"], "a; b", "a", "put", "put b", "put b a a a", "put  b a", "put b  a",
-    " put b a", "put b a ", "put b a\n", "Put b a", "PUT b a", "put B a", "put b A", "put b a1", "put b a, c", "put b (a)",
+    " put b a", "put b a ", "put b a\n", "Put b a", "PUT b a", "put B a", "put b A", "put b a1", "put b a, c",
+    "put b (a)",
     "put abcdefghi a", "put b abcdefghi", "put b a c abcdefghi", "put b;a", "put b; a", "take", "take b c", "take  b",
     "take b ", "take B", "take abcdefghi", "undo b", "undo ", " undo", "web a", "web ", "webs", "ends a", "count 1",
     "count a", "kinds a", "line", "line a", "line a b c", "line a  b", "line A b", "line a b ", "line a, b", "gaps a",
-    "gap", "gaps ", "drop a", "none", "done", "no InvalidName", "quit", "help", "text", "names", "has", "sure", "judge a b",
-    "put\nb a", "put b\na", "web\nweb", "\nweb", "web\n", "put_b a", "put-b a", "undo.", "undo;", "UNDO", "tried", "line a b\n",
+    "gap", "gaps ", "drop a", "none", "done", "no InvalidName", "quit", "help", "text", "names", "has", "sure",
+    "judge a b",
+    "put\nb a", "put b\na", "web\nweb", "\nweb", "web\n", "put_b a", "put-b a", "undo.", "undo;", "UNDO", "tried",
+    "line a b\n",
 )
 
 
@@ -124,7 +127,8 @@ class ChangesTest(Case):
 
     def test_undo_after_an_error(self):
         shelf = filled("a; b a; c b")
-        self.assertEqual(talk(shelf, "put b a\nundo\nundo\nundo\nweb"), "no InvalidName\ndone\ndone\nno NothingToUndo\na")
+        self.assertEqual(
+            talk(shelf, "put b a\nundo\nundo\nundo\nweb"), "no InvalidName\ndone\ndone\nno NothingToUndo\na")
         self.assert_error(NothingToUndo(), shelf.undo)
 
 
@@ -195,7 +199,8 @@ class DrawnTest(Case):
     """What a shelf answers beside what one like it does."""
 
     def line_of(self, drawing):
-        word = drawing.choice(("put", "put", "put", "put", "take", "undo", "web", "ends", "count", "kinds", "line", "gaps"))
+        word = drawing.choice(
+            ("put", "put", "put", "put", "take", "undo", "web", "ends", "count", "kinds", "line", "gaps"))
         many = {"put": drawing.choice((2, 3)), "take": 1, "line": 2}.get(word, 0)
         return " ".join([word, *[drawing.choice("abcdefg") for _ in range(many)]])
 
@@ -231,8 +236,9 @@ class DrawnTest(Case):
 class AttemptTest(Case):
     def test_a_talk_in_an_attempt(self):
         shelf = filled(RING)
-        error = self.caught(InvalidText, shelf.tried, (lambda held: talk(held, "take e\nundo\nundo\nput x d\nnothing"),), {})
-        self.assertEqual(error.given, "nothing")
+        with self.assertRaises(InvalidText) as caught:
+            shelf.tried(lambda held: talk(held, "take e\nundo\nundo\nput x d\nnothing"))
+        self.assertEqual(caught.exception.given, "nothing")
         self.assertEqual((shelf.web.text, shelf.changes), (RING, 4))
         self.assertEqual(shelf.tried(lambda held: talk(held, "take e\nundo\nundo\nput x d")), "done\ndone\ndone\ndone")
         self.assertEqual((shelf.web.text, shelf.changes), ("a; b a; c a; d b c; x d", 4))

@@ -4,8 +4,8 @@ import unittest
 from basetrees.errors import FullSource, InvalidName, InvalidSources, InvalidText, TooMany, UnknownName
 from basetrees.webs import Web
 from cases import Case
-from samples import (EVEN, EqualToAll, LONG, NO_NAMES, ODD, ODD_TUPLES, PLAIN, RING, SHORT, Touchy, WIDE, chain, name_of,
-                     single_file, small_texts, stacked_rings)
+from samples import (EVEN, EqualToAll, LONG, NO_NAMES, ODD, ODD_TUPLES, PLAIN, RING, SHORT, Touchy, WIDE, chain,
+                     name_of, single_file, small_texts, stacked_rings)
 
 FORTY = (single_file(40), chain(40, (2,)), chain(40, (1, 2)), stacked_rings(39) + "; last bl")
 

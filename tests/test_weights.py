@@ -7,8 +7,8 @@ from basetrees.weights import best_choice, best_sum, how_many_best, least_sum, p
 from basetrees.webs import Web
 from cases import Case
 from plain import are_prices, counted_best, kept_lines, plain_choices, plain_sum
-from samples import (EVEN, LONG, MORE, RING, SHORT, TWO_THOUSAND, WIDE, chain, drawn_weights, drawn_with_choices, long_row, single_file,
-                     stacked_rings, texts_to_walk)
+from samples import (EVEN, LONG, MORE, RING, SHORT, TWO_THOUSAND, WIDE, chain, drawn_weights, drawn_with_choices,
+                     long_row, single_file, stacked_rings, texts_to_walk)
 
 BOUND = 10 ** 12
 GREAT = (chain(40, (2,)), chain(40, (1,)), chain(40, (2, 1)), stacked_rings(39), single_file(40), long_row("ring"),

@@ -41,7 +41,8 @@ def wrong_told(web):
     told = (*line, True)
     found = [(value, InvalidTold(None)) for value in (*ODD, [], [told], {told: 1}, "told", {told}, iter((told,)))]
     elements = [*ODD, *ODD_TUPLES, line, (*line, 1), (*line, 0), (*line, None), (*line, "True"), (*line, True, True),
-                (*line[::-1], True), [*line, True], (line, True), (line[0], line[0], True), (*line, EqualToAll()), (*line, Touchy())]
+                (*line[::-1], True), [*line, True], (line, True), (line[0], line[0], True),
+                (*line, EqualToAll()), (*line, Touchy())]
     for element in elements:
         found.append(((element,), InvalidTold(0)))
         found.append(((told, element, None), InvalidTold(1)))
