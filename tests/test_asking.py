@@ -3,7 +3,7 @@ import unittest
 
 from basetrees.asking import asked, best_question, enough
 from basetrees.choices import choice_at, how_many
-from basetrees.errors import InvalidOffers, NoChoice, UnknownName
+from basetrees.errors import InvalidOffers, InvalidTold, NoChoice
 from basetrees.limits import MOST_OFFERS
 from basetrees.told import how_many_told
 from basetrees.webs import Web
@@ -146,6 +146,17 @@ class GreatWebsTest(Case):
         self.assertEqual(len(told), 12)
         self.assertEqual(asked(web, told), ())
         self.assertEqual(asked(web, told[1:]), web.lines[2:6])
+
+    def test_twelve_told_lines_and_thirteen(self):
+        web = Web(stacked_rings(29))
+        told = tuple([(web.sources(copy)[0], copy, True) for copy in web.names[3::2]])
+        self.assertEqual(len(told), 13)
+        offers = (web.lines[2], web.lines[-1])
+        self.assertEqual(asked(web, told[:12]), web.lines[-4:])
+        self.assertEqual(best_question(web, told[:12], offers), 1)
+        self.assert_error(InvalidTold(12), asked, web, told)
+        self.assert_error(InvalidTold(12), best_question, web, told, offers)
+        self.assert_error(InvalidTold(12), best_question, web, (*told, None), ())
 
 
 class OffersTest(Case):

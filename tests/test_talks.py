@@ -64,6 +64,7 @@ class QuestionsTest(Case):
         text = "\n".join([line for line, _ in expected])
         if len(text) < 4000:
             self.assertEqual(talk(shelf, text), "\n".join([told for _, told in expected]))
+            self.assertEqual(talk(text=text, shelf=shelf), "\n".join([told for _, told in expected]))
         self.assertEqual((shelf.web, shelf.changes), (web, before))
 
     def test_webs_of_all_kinds(self):
