@@ -45,7 +45,8 @@ def depth_range(web, copy):
     tables = {web.names[0]: {0: everywhere}}
     for name in web.names[1:]:
         tables[name] = _depths_of(web, name, tables, keeping)
-    return min(tables[copy]), max(tables[copy])
+    found = list(tables[copy])
+    return min(found), max(found)
 
 
 def judge_above(web, one, other):

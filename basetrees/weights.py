@@ -13,14 +13,14 @@ def best_sum(web, weights):
     """The greatest sum of a choice."""
     _check_both(web, weights)
     _, tables = _turns_and_sums(web, weights)
-    return sum([max(table.values()) for table in tables])
+    return sum([max(list(table.values())) for table in tables])
 
 
 def least_sum(web, weights):
     """The least sum of a choice."""
     _check_both(web, weights)
     _, tables = _turns_and_sums(web, weights)
-    return sum([min(table.values()) for table in tables])
+    return sum([min(list(table.values())) for table in tables])
 
 
 def best_choice(web, weights):
@@ -117,7 +117,7 @@ def _turns_and_sums(web, weights):
 
 
 def _best_turns(table):
-    best = max(table.values())
+    best = max(list(table.values()))
     return [turn for turn in table if table[turn] == best]
 
 
@@ -143,7 +143,7 @@ def _add_prices(row, weight_of, of_copies, of_sources):
             copies[copy] = sources[source] + weight_of[source, copy]
         else:
             sources[source] = copies[copy] - weight_of[source, copy]
-    least = min(sources.values())
+    least = min(list(sources.values()))
     for copy in copies:
         of_copies[copy] = copies[copy] - least
     for source in sources:

@@ -4,6 +4,7 @@ import itertools
 import random
 
 from basetrees.errors import NoChoice
+from basetrees.shelves import Shelf
 from basetrees.webs import Web
 from basetrees.zigzags import kinds, zigzags
 
@@ -217,3 +218,12 @@ def drawn_weights(seed, web, most):
     """Weights of a web, none of them further from 0 than this."""
     drawing = random.Random(seed)
     return tuple([drawing.randint(-most, most) for _ in web.lines])
+
+
+def filled(text):
+    """A shelf on which the copies of a web were put."""
+    web = Web(text)
+    shelf = Shelf(web.names[0])
+    for name in web.names[1:]:
+        shelf.put(name, web.sources(name))
+    return shelf

@@ -10,7 +10,6 @@ from basetrees.depths import depth, depth_range, is_above, judge_above, meeting,
 from basetrees.desks import Desk
 from basetrees.gaps import first_freed, freeing, gaps, how_many_freed
 from basetrees.judging import judge, shares, sure_lines
-from basetrees.shelves import Shelf
 from basetrees.talks import talk
 from basetrees.told import first_told, how_many_told, judge_told, quarrels, striking
 from basetrees.webs import Web
@@ -18,8 +17,8 @@ from basetrees.weights import best_choice, best_sum, how_many_best, least_sum, p
 from basetrees.zigzags import kinds, ways, zigzag_of, zigzags
 from cases import least_time
 from plain import beside
-from samples import (TWO_THOUSAND, chain, drawn_told, drawn_weights, drawn_with_choices, long_row, single_file,
-                     stacked_rings)
+from samples import (TWO_THOUSAND, chain, drawn_told, drawn_weights, drawn_with_choices, filled, long_row,
+                     single_file, stacked_rings)
 
 # All its 77 lines are in one zigzag.
 LONGEST = chain(40, (2, 1))
@@ -147,9 +146,7 @@ class SoonTest(unittest.TestCase):
 
     def test_shelves_and_desks(self):
         web = Web(LONGEST)
-        shelf = Shelf(web.names[0])
-        for name in web.names[1:]:
-            shelf.put(name, web.sources(name))
+        shelf = filled(LONGEST)
         desk = Desk()
         desk.put("l", web)
         for line in web.lines:

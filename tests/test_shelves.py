@@ -6,17 +6,8 @@ from basetrees.errors import (FullSource, InvalidName, InvalidSources, NothingTo
 from basetrees.shelves import Shelf
 from basetrees.webs import Web
 from cases import Case
-from samples import (EqualToAll, LONG, NO_NAMES, ODD, ODD_TUPLES, PLAIN, Touchy, drawn_text, name_of, single_file,
-                     stacked_rings)
-
-
-def filled(text):
-    """A shelf on which the copies of a web were put."""
-    web = Web(text)
-    shelf = Shelf(web.names[0])
-    for name in web.names[1:]:
-        shelf.put(name, web.sources(name))
-    return shelf
+from samples import (EqualToAll, LONG, NO_NAMES, ODD, ODD_TUPLES, PLAIN, Touchy, drawn_text, filled, name_of,
+                     single_file, stacked_rings)
 
 
 class Fault(Exception):

@@ -10,8 +10,8 @@ from basetrees.talks import answer, talk
 from basetrees.webs import Web
 from basetrees.zigzags import kinds
 from cases import Case
-from samples import (EVEN, LONG, NO_NAMES, ODD, ODD_TUPLES, PLAIN, RING, SHORT, WIDE, drawn_text, name_of,
-                     single_file, stacked_rings)
+from samples import (EVEN, LONG, NO_NAMES, ODD, ODD_TUPLES, PLAIN, RING, SHORT, WIDE, drawn_text, filled,
+                     name_of, single_file, stacked_rings)
 
 NO_LINES = (
     *[name for name in NO_NAMES if name != "a; b"], "a; b", "a", "put", "put b", "put b a a a", "put  b a", "put b  a",
@@ -25,14 +25,6 @@ NO_LINES = (
     "put\nb a", "put b\na", "web\nweb", "\nweb", "web\n", "put_b a", "put-b a", "undo.", "undo;", "UNDO", "tried",
     "line a b\n",
 )
-
-
-def filled(text):
-    web = Web(text)
-    shelf = Shelf(web.names[0])
-    for name in web.names[1:]:
-        shelf.put(name, web.sources(name))
-    return shelf
 
 
 class DocumentTest(unittest.TestCase):

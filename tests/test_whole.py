@@ -12,15 +12,14 @@ from basetrees.desks import Desk
 from basetrees.errors import Broken
 from basetrees.gaps import freeing, gaps, how_many_freed
 from basetrees.judging import judge, shares, sure_lines
-from basetrees.shelves import Shelf
 from basetrees.talks import talk
 from basetrees.told import first_told, how_many_told, judge_told
 from basetrees.webs import Web
 from basetrees.weights import best_choice, best_sum, sums
 from basetrees.zigzags import kinds, ways, zigzags
 from cases import Case
-from samples import (PLAIN, TWO_THOUSAND, chain, drawn_text, drawn_weights, drawn_with_choices, long_row, single_file,
-                     stacked_rings)
+from samples import (PLAIN, TWO_THOUSAND, chain, drawn_text, drawn_weights, drawn_with_choices, filled, long_row,
+                     single_file, stacked_rings)
 
 WITH = (*PLAIN[:3], PLAIN[4], "a", "a; b a", chain(40, (2,)), chain(40, (1,)), stacked_rings(39), single_file(40),
         long_row("ring"), long_row("wide"), long_row("even"), TWO_THOUSAND,
@@ -96,9 +95,7 @@ class TogetherTest(Case):
     def test_shelves_tell_what_the_functions_tell(self):
         for text in (*WITH, *WITHOUT):
             web = Web(text)
-            shelf = Shelf(web.names[0])
-            for name in web.names[1:]:
-                shelf.put(name, web.sources(name))
+            shelf = filled(text)
             self.assertEqual(shelf.web, web)
             self.assertEqual(everything(shelf.web.text), everything(text))
             told = talk(shelf, "count\nkinds\ngaps\nends\nweb").split("\n")
